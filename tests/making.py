@@ -1,0 +1,43 @@
+"""Makes files, byte by byte, for the tests."""
+
+LAST = [0x3B]
+
+
+def pair(number):
+    return [number % 256, number // 256]
+
+
+def table(marks):
+    return [(7 * k) % 256 for k in range(3 * 2 ** (1 + marks % 8))] if marks >= 128 else []
+
+
+def blocks(rows):
+    made = []
+    for row in rows:
+        made += [len(row)] + row
+    return made + [0]
+
+
+def head(width=10, height=8, marks=0x80, letters="GIF89a", colour=0, behind=0):
+    begin = [ord(letter) for letter in letters]
+    return begin + pair(width) + pair(height) + [marks, colour, behind] + table(marks)
+
+
+def note(kind, rows):
+    return [0x21, kind] + blocks(rows)
+
+
+def picture_note(p=0, time=0, colour=0):
+    return note(0xF9, [[p] + pair(time) + [colour]])
+
+
+def picture(left=0, top=0, width=1, height=1, marks=0, size=2, rows=((0x44, 0x01),)):
+    edges = pair(left) + pair(top) + pair(width) + pair(height)
+    return [0x2C] + edges + [marks] + table(marks) + [size] + blocks([list(row) for row in rows])
+
+
+def whole(*parts, **screen):
+    made = head(**screen)
+    for part in parts:
+        made += part
+    return made + LAST
