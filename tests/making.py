@@ -1,6 +1,16 @@
-"""Makes files, byte by byte, for the tests."""
+"""Makes files, byte by byte, and lists that may not be changed, for the tests."""
 
 LAST = [0x3B]
+
+
+class Untouchable(list):
+    """A list that tells at once when it is changed, be it for a while."""
+
+    def refuse(self, *given, **named):
+        raise AssertionError("what was handed in is changed")
+
+    __setitem__ = __delitem__ = __iadd__ = __imul__ = refuse
+    append = extend = insert = pop = remove = clear = sort = reverse = refuse
 
 
 def pair(number):

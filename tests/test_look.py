@@ -2,20 +2,10 @@
 
 import unittest
 
-from making import LAST, head, note, pair, picture, picture_note, whole
+from making import LAST, Untouchable, head, note, pair, picture, picture_note, whole
 from tintfile.pictures import look
 
 NO_FILE = [-1]
-
-
-class Untouchable(list):
-    """A list that tells at once when it is changed, be it for a while."""
-
-    def refuse(self, *given, **named):
-        raise AssertionError("what was handed in is changed")
-
-    __setitem__ = __delitem__ = __iadd__ = __imul__ = refuse
-    append = extend = insert = pop = remove = clear = sort = reverse = refuse
 
 
 def varied_file():
@@ -243,6 +233,7 @@ class NoFiles(Look):
                 self.refused(whole(picture(), [begin]))
                 self.refused(whole(picture(), [begin, 0]))
                 self.refused(whole([begin] + picture()[1:]))
+                self.refused(whole([begin] + note(0xFE, [[1]])[1:], picture()))
 
     def test_bytes_that_end_too_early(self):
         for file in (varied_file(), whole(picture()), whole(picture(marks=0x87), marks=0x00)):

@@ -5,6 +5,11 @@ from tintfile.reading import NoFile, read_outline
 MOST_BYTES = 1048576
 
 
+# Raised where a number is asked for that no picture has.
+class NoPicture(Exception):
+    pass
+
+
 # The screen's width and height, how many pictures there are, and the file's length.
 def look(file):
     if len(file) > MOST_BYTES:
@@ -13,4 +18,25 @@ def look(file):
         outline = read_outline(file)
     except NoFile:
         return [-1]
-    return [0, outline.width, outline.height, outline.pictures, outline.length]
+    return [0, outline.screen.width, outline.screen.height, len(outline.pictures), outline.length]
+
+
+# Where picture k lies, how long it stays, what is done behind it, and its transparent colour.
+def tell(k, file):
+    if len(file) > MOST_BYTES:
+        return [-2]
+    try:
+        picture = find_picture(k, read_outline(file))
+    except NoFile:
+        return [-1]
+    except NoPicture:
+        return [-1]
+    area = picture.area
+    manner = picture.manner
+    return [0, area.left, area.top, area.width, area.height, manner.time, manner.after, manner.transparent]
+
+
+def find_picture(k, outline):
+    if k < 0 or k >= len(outline.pictures):
+        raise NoPicture()
+    return outline.pictures[k]

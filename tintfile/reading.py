@@ -30,6 +30,11 @@ class Reader:
         lower_byte = self.take_byte()
         return lower_byte + 256 * self.take_byte()
 
+    def take_bytes(self, many):
+        start = self.place
+        self.skip(many)
+        return self.file[start:self.place]
+
     def skip(self, many):
         if self.place + many > len(self.file):
             raise NoFile()
@@ -43,10 +48,32 @@ class Screen:
         self.has_table = has_table
 
 
+# How long a picture stays, what is done with it behind it, and which colour is not drawn, -1 if each is.
+class Manner:
+    def __init__(self, time, after, transparent):
+        self.time = time
+        self.after = after
+        self.transparent = transparent
+
+
+# Where on the screen a picture lies.
+class Area:
+    def __init__(self, left, top, width, height):
+        self.left = left
+        self.top = top
+        self.width = width
+        self.height = height
+
+
+class Picture:
+    def __init__(self, area, manner):
+        self.area = area
+        self.manner = manner
+
+
 class Outline:
     def __init__(self, screen, pictures, length):
-        self.width = screen.width
-        self.height = screen.height
+        self.screen = screen
         self.pictures = pictures
         self.length = length
 
@@ -55,12 +82,12 @@ def read_outline(file):
     reader = Reader(file)
     read_head(reader)
     screen = read_screen(reader)
-    pictures = count_pictures(reader, screen)
+    pictures = read_pictures(reader, screen)
     return Outline(screen, pictures, reader.place)
 
 
 def read_head(reader):
-    head = [reader.take_byte() for step in range(6)]
+    head = reader.take_bytes(6)
     if tuple(head) not in HEADS:
         raise NoFile()
 
@@ -87,46 +114,60 @@ def skip_table(reader, marks):
         reader.skip(3 * colours)
 
 
-def count_pictures(reader, screen):
-    pictures = 0
+def read_pictures(reader, screen):
+    pictures = []
+    manner = plain_manner()
     begin = reader.take_byte()
     while begin != LAST:
         if begin == NOTE:
-            read_note(reader)
+            manner = read_note(reader, manner)
         elif begin == PICTURE:
-            read_picture(reader, screen)
-            pictures += 1
+            pictures.append(read_picture(reader, screen, manner))
+            # A note speaks of one picture only.
+            manner = plain_manner()
         else:
             raise NoFile()
         begin = reader.take_byte()
-    if pictures < 1 or pictures > MOST_PICTURES:
+    if len(pictures) < 1 or len(pictures) > MOST_PICTURES:
         raise NoFile()
     return pictures
 
 
-def read_note(reader):
+def plain_manner():
+    return Manner(0, 0, -1)
+
+
+# Gives back the manner that holds behind the note: most notes leave it as it was.
+def read_note(reader, manner):
     kind = reader.take_byte()
-    lengths = skip_blocks(reader)
-    if kind == PICTURE_NOTE and lengths != [4]:
+    blocks = read_blocks(reader)
+    if kind != PICTURE_NOTE:
+        return manner
+    if len(blocks) != 1 or len(blocks[0]) != 4:
         raise NoFile()
+    return read_manner(blocks[0])
 
 
-# Gives back how long each of the blocks is.
-def skip_blocks(reader):
-    lengths = []
+def read_manner(block):
+    reader = Reader(block)
+    marks = reader.take_byte()
+    time = reader.take_pair()
+    colour = reader.take_byte()
+    transparent = colour if marks % 2 == 1 else -1
+    return Manner(time, marks // 4 % 8, transparent)
+
+
+def read_blocks(reader):
+    blocks = []
     length = reader.take_byte()
     while length > 0:
-        reader.skip(length)
-        lengths.append(length)
+        blocks.append(reader.take_bytes(length))
         length = reader.take_byte()
-    return lengths
+    return blocks
 
 
-def read_picture(reader, screen):
-    left = reader.take_pair()
-    top = reader.take_pair()
-    check_edge(left, reader.take_pair(), screen.width)
-    check_edge(top, reader.take_pair(), screen.height)
+def read_picture(reader, screen, manner):
+    area = read_area(reader, screen)
     marks = reader.take_byte()
     if not tells_table(marks) and not screen.has_table:
         raise NoFile()
@@ -134,7 +175,18 @@ def read_picture(reader, screen):
     size = reader.take_byte()
     if size < 2 or size > 8:
         raise NoFile()
-    skip_blocks(reader)
+    read_blocks(reader)
+    return Picture(area, manner)
+
+
+def read_area(reader, screen):
+    left = reader.take_pair()
+    top = reader.take_pair()
+    width = reader.take_pair()
+    height = reader.take_pair()
+    check_edge(left, width, screen.width)
+    check_edge(top, height, screen.height)
+    return Area(left, top, width, height)
 
 
 # One way along the screen, across or down: a picture's start and extent must lie within it.
