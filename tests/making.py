@@ -17,8 +17,8 @@ def pair(number):
     return [number % 256, number // 256]
 
 
-def table(marks):
-    return [(7 * k) % 256 for k in range(3 * 2 ** (1 + marks % 8))] if marks >= 128 else []
+def table(marks, first=0):
+    return [(first + 7 * k) % 256 for k in range(3 * 2 ** (1 + marks % 8))] if marks >= 128 else []
 
 
 def blocks(rows):
@@ -41,9 +41,9 @@ def picture_note(p=0, time=0, colour=0):
     return note(0xF9, [[p] + pair(time) + [colour]])
 
 
-def picture(left=0, top=0, width=1, height=1, marks=0, size=2, rows=((0x44, 0x01),)):
+def picture(left=0, top=0, width=1, height=1, marks=0, size=2, rows=((0x44, 0x01),), first=0):
     edges = pair(left) + pair(top) + pair(width) + pair(height)
-    return [0x2C] + edges + [marks] + table(marks) + [size] + blocks([list(row) for row in rows])
+    return [0x2C] + edges + [marks] + table(marks, first) + [size] + blocks([list(row) for row in rows])
 
 
 def whole(*parts, **screen):
@@ -51,3 +51,34 @@ def whole(*parts, **screen):
     for part in parts:
         made += part
     return made + LAST
+
+
+def pack(codes):
+    """Bytes of codes that are given each with its number of bits."""
+    bits = "".join(f"{code:0{many}b}"[::-1] for code, many in codes)
+    bits += "0" * (-len(bits) % 8)
+    return [int(bits[start:start + 8][::-1], 2) for start in range(0, len(bits), 8)]
+
+
+def widen(size, codes):
+    """The codes, each with the bits that it has behind those ahead of it."""
+    clear = 2 ** size
+    places, bits, before = clear + 2, size + 1, False
+    made = []
+    for code in codes:
+        made.append((code, bits))
+        if code == clear:
+            places, bits, before = clear + 2, size + 1, False
+        else:
+            places += 1 if before and places < 4096 else 0
+            bits = max(size + 1, min(12, places.bit_length()))
+            before = True
+    return made
+
+
+def data(size, codes):
+    return pack(widen(size, codes))
+
+
+def cut(row, length=255):
+    return [row[start:start + length] for start in range(0, len(row), length)]

@@ -1,5 +1,6 @@
 """The calls that the package offers."""
 
+from tintfile.drawing import draw_picture
 from tintfile.reading import NoFile, read_outline
 
 MOST_BYTES = 1048576
@@ -34,6 +35,20 @@ def tell(k, file):
     area = picture.area
     manner = picture.manner
     return [0, area.left, area.top, area.width, area.height, manner.time, manner.after, manner.transparent]
+
+
+# Picture k drawn over canvas, with what is to be brought back later in saved.
+def draw(k, file, canvas, saved):
+    if len(file) > MOST_BYTES:
+        return [-2]
+    try:
+        outline = read_outline(file)
+        find_picture(k, outline)
+    except NoFile:
+        return [-1]
+    except NoPicture:
+        return [-1]
+    return draw_picture(k, outline, canvas, saved)
 
 
 def find_picture(k, outline):

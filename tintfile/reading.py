@@ -41,11 +41,12 @@ class Reader:
         self.place += many
 
 
+# Its colours are empty where the file has no table of its own.
 class Screen:
-    def __init__(self, width, height, has_table):
+    def __init__(self, width, height, colours):
         self.width = width
         self.height = height
-        self.has_table = has_table
+        self.colours = colours
 
 
 # How long a picture stays, what is done with it behind it, and which colour is not drawn, -1 if each is.
@@ -66,9 +67,13 @@ class Area:
 
 
 class Picture:
-    def __init__(self, area, manner):
+    def __init__(self, area, manner, colours, in_passes, size, data):
         self.area = area
         self.manner = manner
+        self.colours = colours
+        self.in_passes = in_passes
+        self.size = size
+        self.data = data
 
 
 class Outline:
@@ -100,18 +105,15 @@ def read_screen(reader):
     marks = reader.take_byte()
     # The number of a colour and the byte behind it say nothing that is ever used.
     reader.skip(2)
-    skip_table(reader, marks)
-    return Screen(width, height, tells_table(marks))
+    return Screen(width, height, read_table(reader, marks))
 
 
-def tells_table(marks):
-    return marks >= 128
-
-
-def skip_table(reader, marks):
-    if tells_table(marks):
-        colours = 2 << (marks % 8)
-        reader.skip(3 * colours)
+# Empty where the marks say that there is no table; a table has two colours at least.
+def read_table(reader, marks):
+    if marks < 128:
+        return []
+    many = 2 << (marks % 8)
+    return [reader.take_bytes(3) for step in range(many)]
 
 
 def read_pictures(reader, screen):
@@ -169,14 +171,23 @@ def read_blocks(reader):
 def read_picture(reader, screen, manner):
     area = read_area(reader, screen)
     marks = reader.take_byte()
-    if not tells_table(marks) and not screen.has_table:
+    colours = read_table(reader, marks)
+    if len(colours) == 0:
+        colours = screen.colours
+    if len(colours) == 0:
         raise NoFile()
-    skip_table(reader, marks)
     size = reader.take_byte()
     if size < 2 or size > 8:
         raise NoFile()
-    read_blocks(reader)
-    return Picture(area, manner)
+    in_passes = marks % 128 >= 64
+    return Picture(area, manner, colours, in_passes, size, join_blocks(read_blocks(reader)))
+
+
+def join_blocks(blocks):
+    joined = []
+    for block in blocks:
+        joined.extend(block)
+    return joined
 
 
 def read_area(reader, screen):
