@@ -2,8 +2,10 @@
 
 from tintfile.drawing import draw_picture
 from tintfile.reading import NoFile, read_outline
+from tintfile.unpacking import unpack
 
 MOST_BYTES = 1048576
+MOST_NUMBERS = 1048576
 
 
 # Raised where a number is asked for that no picture has.
@@ -49,6 +51,15 @@ def draw(k, file, canvas, saved):
     except NoPicture:
         return [-1]
     return draw_picture(k, outline, canvas, saved)
+
+
+# How many numbers the codes of data tell, at most so many as are wanted, and the numbers themselves.
+def codes(size, most, data):
+    if size < 2 or size > 8 or most < 0 or most > MOST_NUMBERS or len(data) > MOST_BYTES:
+        return [-2]
+    unpacked = unpack(size, most, data)
+    first = -1 if unpacked.is_wrong else len(unpacked.numbers)
+    return [first] + unpacked.numbers
 
 
 def find_picture(k, outline):
